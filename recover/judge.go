@@ -25,9 +25,15 @@ func demand(so bool, at int, e api.Errno) {
 // isSoon reports whether a tick of a plan is so small that it can be reckoned with.
 func isSoon(n int) bool { return isIn(n, -maxAt, maxAt) }
 
-// isInTime reports whether a visit is not before the flight, and long enough.
+// isLong reports whether a visit is as long as it has to be. Only at base the helicopter may wait: the visit of a cell is the look at it, and no more.
+func (m *mission) isLong(v api.RcVisit) bool {
+	until := v.From + m.stay(v.Cell)
+	return v.Until == until || v.Cell == base && v.Until > until
+}
+
+// isInTime reports whether a visit is not before the flight, and as long as it has to be.
 func (m *mission) isInTime(v api.RcVisit) bool {
-	return v.From >= m.arrival(v.Cell) && v.Until >= v.From+m.stay(v.Cell)
+	return v.From >= m.arrival(v.Cell) && m.isLong(v)
 }
 
 // isOpen reports whether the cell of a visit is open.

@@ -67,15 +67,21 @@ func TestJudgeVisits(t *testing.T) {
 		{set(2, visit(1, 0, 0)), 2, api.ErrTwice},
 		{upTo(5, visit(3, 0, 0)), 5, api.ErrTwice},
 		// Condition 1, for a cell and for Base.
+		{set(0, visit(0, 24, 34)), 0, api.RcErrEarly},
 		{set(0, visit(0, 24, 35)), 0, api.RcErrEarly},
 		{set(0, visit(0, 25, 34)), 0, api.RcErrEarly},
+		{set(1, visit(1, 44, 54)), 1, api.RcErrEarly},
 		{set(1, visit(1, 44, 55)), 1, api.RcErrEarly},
 		{set(1, visit(1, 45, 54)), 1, api.RcErrEarly},
 		{set(1, visit(1, 46, 55)), 1, api.RcErrEarly},
+		{set(4, visit(base, 154, 174)), 4, api.RcErrEarly},
 		{set(4, visit(base, 154, 175)), 4, api.RcErrEarly},
 		{set(4, visit(base, 155, 174)), 4, api.RcErrEarly},
 		{set(4, visit(base, 155, 176)), 0, api.OK},
 		{set(4, visit(base, 156, 176)), 0, api.OK},
+		{set(4, visit(base, 155, 1000)), 0, api.OK},
+		{set(4, visit(base, 155, long)), 0, api.OK},
+		{set(4, visit(base, 155, long+1)), 4, api.RcErrEarly},
 		{set(4, visit(base, long-20, long)), 0, api.OK},
 		{set(4, visit(base, long-20, long+1)), 4, api.RcErrEarly},
 		{set(4, visit(base, long+1, long+21)), 4, api.RcErrEarly},
@@ -89,24 +95,67 @@ func TestJudgeVisits(t *testing.T) {
 		{set(0, visit(0, math.MinInt, math.MinInt)), 0, api.RcErrEarly},
 		{set(0, visit(0, math.MaxInt, math.MaxInt)), 0, api.RcErrEarly},
 		// Condition 2: the cell 2 opens at 100, and the cell 4 never does.
-		{set(3, visit(2, 99, 110)), 3, api.RcErrClosed},
-		{set(3, visit(2, 100, 111)), 4, api.RcErrEarly}, // Base is 45 ticks away
+		{set(3, visit(2, 99, 109)), 3, api.RcErrClosed},
+		{set(3, visit(2, 101, 111)), 4, api.RcErrEarly}, // Base is 45 ticks away
 		{upTo(0, visit(2, 45, 55)), 0, api.RcErrClosed},
 		{set(3, visit(4, 100, 110)), 3, api.RcErrClosed},
 		{upTo(3, visit(4, 100, 110)), 3, api.RcErrClosed},
 		// Several errors of one visit: the first one.
+		{set(3, visit(2, 89, 99)), 3, api.RcErrEarly},
 		{set(3, visit(2, 90, 99)), 3, api.RcErrEarly},
+		{set(3, visit(2, 90, 101)), 3, api.RcErrEarly},
 		{set(3, visit(2, 84, 1000)), 3, api.RcErrEarly},
-		{set(3, visit(2, 99, 1000)), 3, api.RcErrClosed},
-		{set(3, visit(4, 1000, 2000)), 3, api.RcErrClosed},
+		{set(3, visit(2, 1000, 2000)), 3, api.RcErrEarly},
+		{set(3, visit(4, 1000, 1010)), 3, api.RcErrClosed},
+		{set(3, visit(4, 1000, 1011)), 3, api.RcErrEarly},
 		{set(3, visit(0, 1000, 2000)), 3, api.ErrTwice},
 		// Several visits with an error: the first one.
 		{upTo(0, visit(0, 24, 34), visit(7, 0, 0)), 0, api.RcErrEarly},
 		{upTo(0, visit(4, 100, 110), visit(7, 0, 0)), 0, api.RcErrClosed},
-		{upTo(1, visit(2, 100, 1000), visit(7, 0, 0)), 1, api.RcErrFuel},
+		{upTo(1, visit(2, 200, 210), visit(7, 0, 0)), 1, api.RcErrFuel},
 		// A visit comes before what is left.
 		{api.RcPlan{Visits: []api.RcVisit{visit(0, 24, 34)}, Left: []api.RcLeft{left(7, 7)}}, 0, api.RcErrEarly},
 		{api.RcPlan{Visits: []api.RcVisit{visit(0, 25, 35), visit(9, 45, 55)}, Left: []api.RcLeft{left(7, 7)}}, 1, api.ErrNone},
+	})
+	// The visit of the cell 2 is back at 154.
+	runPlans(t, changed(func(t *api.RcTask) { t.Fuel = 153 }), []planCase{
+		{set(3, visit(2, 99, 109)), 3, api.RcErrClosed},
+		{set(3, visit(2, 100, 110)), 3, api.RcErrFuel},
+	})
+}
+
+// P10.6: Until of the visit of a cell is From and Look; that of a visit of Base may be later than From and Turn.
+func TestJudgeLook(t *testing.T) {
+	const long = 1000000000
+	runPlans(t, example(), []planCase{
+		{set(0, visit(0, 25, 36)), 0, api.RcErrEarly},
+		{set(1, visit(1, 45, 56)), 1, api.RcErrEarly},
+		{set(1, visit(1, 45, 65)), 1, api.RcErrEarly}, // as long as Turn
+		{set(2, visit(3, 65, 76)), 2, api.RcErrEarly},
+		{set(3, visit(2, 100, 111)), 3, api.RcErrEarly},
+		{set(3, visit(2, 100, long)), 3, api.RcErrEarly},
+		// It may wait at Base, and in the air before a visit.
+		{upTo(0, visit(base, 0, 25), visit(0, 50, 60), visit(1, 70, 80), visit(3, 90, 100), visit(2, 115, 125)), 0, api.OK},
+		{upTo(0, visit(base, 0, 25), visit(0, 50, 60), visit(1, 71, 81), visit(3, 92, 102), visit(2, 120, 130)), 0, api.OK},
+		// The last tick that a visit of a cell can end at.
+		{upTo(0, visit(0, long-10, long)), 1, api.RcErrLeft},
+		{upTo(0, visit(0, long-9, long+1)), 0, api.RcErrEarly},
+		{upTo(0, visit(0, long-10, long+1)), 0, api.RcErrEarly},
+	})
+	// A cell whose middle is Base is a cell.
+	over := rowWith(2, func(t *api.RcTask) { t.Base.X = 5 })
+	runPlans(t, over, []planCase{
+		{plan(visit(0, 0, 3), visit(1, 14, 17)), 0, api.OK},
+		{plan(visit(0, 0, 4), visit(1, 15, 18)), 0, api.RcErrEarly},
+		{plan(visit(0, 0, 3), visit(base, 3, 8), visit(1, 19, 22)), 0, api.OK},
+		{plan(visit(0, 0, 3), visit(base, 3, 8), visit(1, 18, 21)), 2, api.RcErrEarly},
+	})
+	// The least numbers there are.
+	least := api.RcTask{Size: 1, Speed: 1, Fuel: 1, Look: 1}
+	runPlans(t, least, []planCase{
+		{plan(visit(0, 0, 0)), 0, api.RcErrEarly},
+		{plan(visit(0, 0, 1)), 0, api.OK},
+		{plan(visit(0, 0, 2)), 0, api.RcErrEarly},
 	})
 }
 
@@ -114,21 +163,22 @@ func TestJudgeVisits(t *testing.T) {
 func TestJudgeFuel(t *testing.T) {
 	runPlans(t, example(), []planCase{
 		// Until 155 at the cell 2, 45 ticks from Base; it has left at 0.
-		{upTo(3, visit(2, 100, 155)), 0, api.OK},
-		{upTo(3, visit(2, 100, 156)), 3, api.RcErrFuel},
 		{upTo(3, visit(2, 145, 155)), 0, api.OK},
 		{upTo(3, visit(2, 146, 156)), 3, api.RcErrFuel},
 		// It need not go back; and how long it takes back is not asked.
 		{upTo(4), 0, api.OK},
 		{upTo(4, visit(base, 1000, 1020)), 0, api.OK},
 		// It has left for the first cell, whenever it has been at Base before.
-		{upTo(0, visit(0, 1025, 1035), visit(1, 1045, 1055), visit(3, 1065, 1075), visit(2, 1100, 1155)), 0, api.OK},
-		{upTo(0, visit(0, 1025, 1035), visit(1, 1045, 1055), visit(3, 1065, 1075), visit(2, 1100, 1156)), 3, api.RcErrFuel},
-		{upTo(0, visit(base, 0, 500), visit(0, 1025, 1035), visit(1, 1045, 1055), visit(3, 1065, 1075), visit(2, 1100, 1155)), 0, api.OK},
-		{upTo(3, visit(base, 112, 132), visit(2, 177, 287)), 0, api.OK},
-		{upTo(3, visit(base, 112, 132), visit(2, 177, 288)), 4, api.RcErrFuel},
-		{upTo(0, visit(0, 25, 35), visit(base, 60, 80), visit(base, 80, 100), visit(1, 135, 145), visit(base, 180, 200), visit(base, 300, 320), visit(3, 400, 520), visit(base, 557, 577), visit(2, 622, 732)), 0, api.OK},
-		{upTo(0, visit(0, 25, 35), visit(base, 60, 80), visit(base, 80, 100), visit(1, 135, 145), visit(base, 180, 200), visit(base, 300, 320), visit(3, 400, 520), visit(base, 557, 577), visit(2, 622, 733)), 8, api.RcErrFuel},
+		{upTo(0, visit(0, 1025, 1035), visit(1, 1045, 1055), visit(3, 1065, 1075), visit(2, 1145, 1155)), 0, api.OK},
+		{upTo(0, visit(0, 1025, 1035), visit(1, 1045, 1055), visit(3, 1065, 1075), visit(2, 1146, 1156)), 3, api.RcErrFuel},
+		{upTo(0, visit(base, 0, 500), visit(0, 1025, 1035), visit(1, 1045, 1055), visit(3, 1065, 1075), visit(2, 1145, 1155)), 0, api.OK},
+		{upTo(0, visit(base, 0, 500), visit(0, 1025, 1035), visit(1, 1045, 1055), visit(3, 1065, 1075), visit(2, 1146, 1156)), 4, api.RcErrFuel},
+		// It has left anew at 110.
+		{upTo(2, visit(base, 90, 110), visit(3, 147, 157), visit(2, 255, 265)), 0, api.OK},
+		{upTo(2, visit(base, 90, 110), visit(3, 147, 157), visit(2, 256, 266)), 4, api.RcErrFuel},
+		// It has left at 363 after several visits of Base: the cell 3 is 37 ticks away.
+		{upTo(0, visit(0, 25, 35), visit(base, 60, 80), visit(base, 80, 100), visit(1, 135, 145), visit(base, 180, 200), visit(base, 300, 320), visit(3, 400, 410), visit(2, 508, 518)), 0, api.OK},
+		{upTo(0, visit(0, 25, 35), visit(base, 60, 80), visit(base, 80, 100), visit(1, 135, 145), visit(base, 180, 200), visit(base, 300, 320), visit(3, 400, 410), visit(2, 509, 519)), 7, api.RcErrFuel},
 	})
 }
 
@@ -208,7 +258,8 @@ func TestFound(t *testing.T) {
 		{first(), 500, 1500, 0, api.ErrNone},
 		{first(), -1, 0, 0, api.ErrNone},
 		{first(), math.MaxInt, math.MinInt, 0, api.ErrNone},
-		{upTo(3, visit(2, 100, 155)), 2000, 0, 155, api.OK},
+		{upTo(3, visit(2, 145, 155)), 2000, 0, 155, api.OK},
+		{upTo(3, visit(2, 100, 155)), 2000, 0, 0, api.RcErrEarly},
 		{upTo(3), 1200, 300, 0, api.RcErrLeft},
 		{leaving(), 1200, 300, 0, api.RcErrLeft},
 		{set(0, visit(0, 24, 35)), 1200, 300, 0, api.RcErrEarly},

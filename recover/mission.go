@@ -59,7 +59,7 @@ func (m *mission) place(cell int) api.Place {
 // flight returns how long the flight from a cell, or base, to another one takes.
 func (m *mission) flight(a, b int) int { return ticks(m.place(a), m.place(b), m.Speed) }
 
-// stay returns how long a visit takes at least.
+// stay returns how long a visit of a cell takes, or, at least, one of base.
 func (m *mission) stay(cell int) int {
 	if cell == base {
 		return m.Turn

@@ -163,11 +163,13 @@ func (x reader) isEarly(l []api.RcVisit, i int) bool {
 	if i > 0 {
 		before = l[i-1]
 	}
-	least := x.Look
-	if l[i].Cell == base {
-		least = x.Turn
+	if l[i].From-before.Until < x.flight(before.Cell, l[i].Cell) {
+		return true
 	}
-	return l[i].From-before.Until < x.flight(before.Cell, l[i].Cell) || l[i].Until-l[i].From < least
+	if l[i].Cell == base {
+		return l[i].Until-l[i].From < x.Turn
+	}
+	return l[i].Until-l[i].From != x.Look
 }
 
 // needs returns how much fuel has been used when it is back from the visit i.
@@ -289,7 +291,7 @@ func (x reader) other(r *rand.Rand) (p api.RcPlan) {
 	wait := func() int { return pick(r, 0, 0, 0, 0, 0, 1, r.Intn(10), r.Intn(100)) }
 	add := func(v api.RcVisit) bool {
 		v.From += wait()
-		v.Until = max(v.Until, v.From+x.Look) + wait()
+		v.Until = v.From + x.Look
 		if v.Cell == base {
 			v.Until = v.From + x.Turn + wait()
 		}
